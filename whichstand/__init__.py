@@ -1,0 +1,1 @@
+"""Whichstand: rows that tell where a machine was."""
