@@ -3,6 +3,7 @@ import itertools
 import random
 import unittest
 
+from direct import random_table, written
 from whichstand.apart import alike, told_apart
 from whichstand.errors import BadStand
 from whichstand.machines import Machine
@@ -10,17 +11,6 @@ from whichstand.machines import Machine
 # Three stands that write alike until stand 2 is reached.
 CHAIN = Machine((((1, 0), (0, 0)), ((2, 0), (0, 0)), ((2, 1), (0, 0))))
 SAME = Machine((((0, 0), (1, 1)), ((1, 0), (0, 1))))
-
-
-def written(table, stand, row):
-    """What a stand writes, None if it cannot read the row."""
-    out = []
-    for letter in row:
-        if table[stand][letter] is None:
-            return None
-        stand, wrote = table[stand][letter]
-        out.append(wrote)
-    return out
 
 
 def first_row_apart(table, one, other):
@@ -58,15 +48,6 @@ def first_row_backwards(table, one, other):
         if row is not None:
             return row
     return None
-
-
-def random_table(source, stands, letters, lacks, most_written):
-    def step():
-        if source.randrange(10) < lacks:
-            return None
-        return (source.randrange(stands), source.randrange(most_written))
-
-    return tuple(tuple(step() for _ in range(letters)) for _ in range(stands))
 
 
 class ToldApartTest(unittest.TestCase):
