@@ -12,6 +12,11 @@ BAD_STANDS = [
     (0, 1, 2, 3), (10 ** 30,), (-(10 ** 30), 0), (True,), (False,), (0, True), (False, 1), (True, 2),
     ("0",), (0, "1"), ("0", 1), ("0", "1"), (None,), (0, None), ((0,),), (0, (1,)), ([0],), (0, [1]), ({},),
 ]
+BAD_STAND = [
+    # For a machine with three stands.
+    -1, -2, 3, 4, 6, 10 ** 30, True, False, None, "", "0", "1", "stand", [], [0], [1], (), (0,), (1,), (0, 1), {},
+    {0: 1}, {1: 0},
+]
 BAD_AIMS = [
     0, 1, 2, -1, True, False, None, "", "f", "First", "LAST", "home ", " home", "firs", "lasts", "first,last",
     ("first",), ("first", "last"), (), ["first"], ["home"], [], {}, {"first": 1}, {"last": "last"},
@@ -31,6 +36,24 @@ LONG_WAY_HOME = (
     ((5, 0), None, (3, 0)),
     ((0, 0), None, (4, 0)),
     ((4, 0), None, (5, 0)),
+)
+# To tell the first one of its stands 0 to 3, or the last one, takes 57 letters.
+LONG_WAY_FIRST = (
+    ((0, 0), (2, 0), (3, 0)),
+    ((5, 0), (5, 0), None),
+    ((1, 0), None, (1, 0)),
+    ((3, 0), None, (4, 0)),
+    ((2, 0), (0, 0), (0, 0)),
+    ((4, 0), (3, 1), (2, 0)),
+)
+# To tell its stand 0 from the stands 1 to 4 takes 47 letters.
+LONG_WAY_OWN = (
+    ((3, 0), (3, 0), (5, 0)),
+    ((4, 0), (0, 0), (0, 1)),
+    ((5, 0), None, None),
+    ((2, 0), (4, 0), None),
+    ((0, 0), (2, 0), None),
+    ((1, 0), (3, 0), None),
 )
 
 
