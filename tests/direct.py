@@ -46,6 +46,15 @@ LONG_WAY_FIRST = (
     ((2, 0), (0, 0), (0, 0)),
     ((4, 0), (3, 1), (2, 0)),
 )
+# Where its stands 0 to 2 lie on one side and 3 and 4 on another one, 43 letters tell the side.
+LONG_WAY_SIDE = (
+    (None, None, (1, 0)),
+    ((2, 0), (3, 0), (5, 0)),
+    ((3, 0), None, (0, 0)),
+    ((0, 0), None, (4, 0)),
+    ((3, 0), None, (2, 0)),
+    ((4, 0), (5, 1), (3, 0)),
+)
 # To tell its stand 0 from the stands 1 to 4 takes 47 letters.
 LONG_WAY_OWN = (
     ((3, 0), (3, 0), (5, 0)),
@@ -132,18 +141,23 @@ def histories(table, stands):
     queue = [start]
     for state in queue:
         for letter in range(len(table[0])):
-            steps = [table[at][letter] for at, _ in state]
-            if None in steps:
-                continue
-            names = {}
-            after = []
-            for (_, group), (following, wrote) in zip(state, steps):
-                after.append((following, names.setdefault((group, wrote), len(names))))
-            after = tuple(after)
-            if after not in rows:
+            after = state_after(table, state, letter)
+            if after is not None and after not in rows:
                 rows[after] = rows[state] + (letter,)
                 queue.append(after)
     return rows
+
+
+def state_after(table, state, letter):
+    """The state of knowledge that a letter brings, None if some step lacks."""
+    steps = [table[at][letter] for at, _ in state]
+    if None in steps:
+        return None
+    names = {}
+    after = []
+    for (_, group), (following, wrote) in zip(state, steps):
+        after.append((following, names.setdefault((group, wrote), len(names))))
+    return tuple(after)
 
 
 def state_reaches(state, aim):
@@ -185,15 +199,21 @@ def all_tables(stands, steps):
 
 def tree_depth(table, stands, aim, value):
     """Judge any value by the words of point 7, following each first stand by itself."""
-    return _depth_below(table, [(stand, stand) for stand in stands], aim, value)
+    return _depth_below(table, [(stand, stand) for stand in stands], aim, range(len(table)), value)
 
 
-def _depth_below(table, possible, aim, value):
+def lead_tree_depth(table, stands, goal, value):
+    """Judge any value by the words of point 14, following each first stand by itself."""
+    return _depth_below(table, [(stand, stand) for stand in stands], "last", [goal], value)
+
+
+def _depth_below(table, possible, aim, goals, value):
     # Each that is possible is a first stand and the stand in which the machine is if it began there.
     if type(value) is not tuple or len(value) not in (0, 2):
         return None
     if value == ():
-        return 0 if len({at for _, at in possible}) == 1 else None
+        ends = {at for _, at in possible}
+        return 0 if len(ends) == 1 and ends <= set(goals) else None
     letter, branches = value
     if type(letter) is not int or letter not in range(len(table[0])) or type(branches) is not tuple:
         return None
@@ -209,5 +229,5 @@ def _depth_below(table, possible, aim, value):
         behind = [(began, step[0]) for began, step in steps if step[1] == wrote]
         if aim == "first" and len({at for _, at in behind}) < len(behind):
             return None
-        depths.append(_depth_below(table, behind, aim, below))
+        depths.append(_depth_below(table, behind, aim, goals, below))
     return None if None in depths else 1 + max(depths)

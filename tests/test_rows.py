@@ -4,8 +4,8 @@ import random
 import unittest
 
 from direct import (
-    AIMS, BAD_AIMS, BAD_ROWS, BAD_STANDS, LONG_WAY_HOME, Refusing, all_rows, all_tables, expected_rows,
-    histories, lot_behind, random_table, read_row, row_reaches, subsets,
+    AIMS, BAD_AIMS, BAD_ROWS, BAD_STANDS, LONG_WAY_FIRST, LONG_WAY_HOME, Refusing, all_rows, all_tables,
+    expected_rows, histories, lot_behind, random_table, read_row, row_reaches, subsets,
 )
 from whichstand.apart import alike
 from whichstand.errors import BadAim, BadRow, BadStands
@@ -304,6 +304,17 @@ class LeastRowTest(unittest.TestCase):
         for aim in ("last", "home"):
             self.assertEqual(len(least_row(machine, tuple(range(6)), aim)), 30)
         self.check(LONG_WAY_HOME)
+
+    def test_more_letters_than_a_row_that_is_passed_can_have(self):
+        machine = Machine(LONG_WAY_FIRST)
+        for aim in ("first", "last"):
+            row = least_row(machine, (0, 1, 2, 3), aim)
+            self.assertEqual(len(row), 57)
+            self.assertTrue(row_reaches(LONG_WAY_FIRST, (0, 1, 2, 3), aim, row))
+            self.assertIsNone(paper(machine, (0, 1, 2, 3), aim))
+            with self.assertRaises(BadRow):
+                reaches(machine, (0, 1, 2, 3), aim, row)
+        self.check(LONG_WAY_FIRST)
 
     def test_the_answer_is_a_tuple_of_integers(self):
         for question in questions(CHAIN):

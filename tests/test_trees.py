@@ -7,6 +7,7 @@ import unittest
 from direct import (
     BAD_AIMS, BAD_STANDS, LONG_WAY_HOME, Refusing, all_tables, random_table, subsets, tree_depth,
 )
+from treevalues import all_trees, part_at, places, put_at, reading_on
 from whichstand.errors import BadAim, BadStands
 from whichstand.machines import Machine
 from whichstand.rows import least_row
@@ -30,16 +31,6 @@ CHOSEN = (0, ((0, (1, ((0, ()), (1, ())))), (1, (2, ((0, ()), (1, ()))))))
 STAY = Machine((((0, 0), (0, 0)), ((1, 3), None)))
 
 
-def all_trees(depth):
-    """All trees of at most that depth that read the letters 0 and 1, and branch by 0, by 1 or by both."""
-    if depth == 0:
-        return [()]
-    below = all_trees(depth - 1)
-    branches = [((written, one),) for written in (0, 1) for one in below]
-    branches += [((0, one), (1, other)) for one in below for other in below]
-    return [()] + [(letter, some) for letter in (0, 1) for some in branches]
-
-
 def least_depth_downwards(table, stands, aim):
     """The least depth, asked for each number of letters from above."""
 
@@ -58,37 +49,6 @@ def least_depth_downwards(table, stands, aim):
 
     # There are 57 blocks of two to six stands, and none has to come twice.
     return next((depth for depth in range(58) if told(stands, depth)), None)
-
-
-def places(value):
-    """The ways to all parts of nested tuples, each a tuple of indexes."""
-    yield ()
-    if isinstance(value, tuple):
-        for index, part in enumerate(value):
-            for way in places(part):
-                yield (index,) + way
-
-
-def part_at(value, way):
-    for index in way:
-        value = value[index]
-    return value
-
-
-def put_at(value, way, part):
-    """Nested tuples with one part replaced."""
-    if way == ():
-        return part
-    below = put_at(value[way[0]], way[1:], part)
-    return value[:way[0]] + (below,) + value[way[0] + 1:]
-
-
-def reading_on(depth, letter, written):
-    """A tree that reads a letter again and again, where always the same is written."""
-    value = ()
-    for _ in range(depth):
-        value = (letter, ((written, value),))
-    return value
 
 
 class DepthOfTest(unittest.TestCase):

@@ -6,20 +6,22 @@ def search(start, letters, lead, is_end):
 
     lead(state, letter) returns a state, or None for nowhere.
     """
-    # States wait in the order of their rows, shorter ones first and then lesser ones,
+    # States stand in the order of their rows, shorter ones first and then lesser ones,
     # so the row of the first end is the one that is asked for.
     rows = {start: ()}
-    waiting = [start]
-    while waiting:
-        state = waiting.pop(0)
+    states = [start]
+    index = 0
+    while index < len(states):
+        state = states[index]
         if is_end(state):
-            return rows[state], list(rows)
+            return rows[state], states
         for letter in range(letters):
             reached = lead(state, letter)
             if reached is not None and reached not in rows:
                 rows[reached] = rows[state] + (letter,)
-                waiting.append(reached)
-    return None, list(rows)
+                states.append(reached)
+        index += 1
+    return None, states
 
 
 def is_closed(start, states, letters, lead, is_end):

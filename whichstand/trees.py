@@ -9,20 +9,25 @@ def tree(machine, stands, aim):
     """Return a tree of least depth that reaches an aim from some stands, None if there is none."""
     check_stands(machine, stands)
     check_aim(aim, TREE_AIMS)
-    return _least_tree(machine, stands, aim)[1]
+    return find_least_tree(machine, stands, aim, _single_blocks(machine))[1]
 
 
 def least_depth(machine, stands, aim):
     """Return the least depth of a tree that reaches an aim from some stands, None if there is none."""
     check_stands(machine, stands)
     check_aim(aim, TREE_AIMS)
-    return _least_tree(machine, stands, aim)[0]
+    return find_least_tree(machine, stands, aim, _single_blocks(machine))[0]
 
 
 def depth_of(machine, stands, aim, value):
     """Return the depth of any value, None if it is no tree that reaches the aim from the stands."""
     check_stands(machine, stands)
     check_aim(aim, TREE_AIMS)
+    return judge_tree(machine, stands, aim, _single_blocks(machine), value)
+
+
+def judge_tree(machine, stands, aim, ends, value):
+    """Return the depth of any value, None if it is no tree that ends nowhere but in some blocks."""
     greatest = 0
     # Trees wait in a list, as a tree may be deeper than calls can be nested.
     waiting = [(value, stands, 0)]
@@ -30,7 +35,7 @@ def depth_of(machine, stands, aim, value):
         part, block, depth = waiting.pop()
         greatest = max(greatest, depth)
         if part == ():
-            if len(block) > 1:
+            if block not in ends:
                 return None
             continue
         behind = _trees_behind(machine, block, aim, part)
@@ -38,6 +43,30 @@ def depth_of(machine, stands, aim, value):
             return None
         waiting.extend([(following, reached, depth + 1) for following, reached in behind])
     return greatest
+
+
+def find_least_tree(machine, stands, aim, ends):
+    """Return the least depth of a tree that ends nowhere but in some blocks, and one that has it, or None, None."""
+    # Each round finds the blocks whose least trees are deeper by one than those of the round before,
+    # so a block that is found in a round has no tree of fewer letters.
+    depth = 0
+    blocks = _all_blocks(machine)
+    trees = {known: () for known in ends}
+    while stands not in trees:
+        depth += 1
+        deeper = {}
+        for block in blocks:
+            found = None if block in trees else _tree_over(machine, block, aim, trees)
+            if found is not None:
+                deeper[block] = found
+        if not deeper:
+            return None, None
+        trees.update(deeper)
+    return depth, trees[stands]
+
+
+def _single_blocks(machine):
+    return [(stand,) for stand in range(len(machine))]
 
 
 def _trees_behind(machine, block, aim, value):
@@ -62,25 +91,6 @@ def _is_branch(value, written):
     if not isinstance(value, tuple) or len(value) != 2:
         return False
     return is_below(value[0], WRITTEN_LETTERS) and value[0] == written
-
-
-def _least_tree(machine, stands, aim):
-    # Each round finds the blocks whose least trees are deeper by one than those of the round before,
-    # so a block that is found in a round has no tree of fewer letters.
-    depth = 0
-    blocks = _all_blocks(machine)
-    trees = {known: () for known in blocks if len(known) == 1}
-    while stands not in trees:
-        depth += 1
-        deeper = {}
-        for block in blocks:
-            found = None if block in trees else _tree_over(machine, block, aim, trees)
-            if found is not None:
-                deeper[block] = found
-        if not deeper:
-            return None, None
-        trees.update(deeper)
-    return depth, trees[stands]
 
 
 def _tree_over(machine, block, aim, trees):
